@@ -162,6 +162,7 @@ class WrittenTest(unittest.TestCase):
             ("${1:aB1zZ}-${1/u}", "aB1zZ-AB1ZZ"), ("${1:aB1zZ}-${1/l}", "aB1zZ-ab1zz"),
             ("${1:aBzZ}-${1/c}", "aBzZ-Abzz"), ("${1:1aB}-${1/c}", "1aB-1ab"), ("${1:}-${1/c}", "-"),
             ("${1:`@[{~}-${1/u}${1/l}${1/c}", "`@[{~-`@[{~`@[{~`@[{~"), ("${1|ab,c|}${1/u}", "abAB"),
+            ("${1:AZaz}${1/u}${1/l}${1/c}", "AZazAZAZazazAzaz"), ("${1:za}${1/c}", "zaZa"),
         ])
 
     def test_mirrors_of_what_has_places_in_it(self):
