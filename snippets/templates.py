@@ -36,10 +36,11 @@ def read_template(codes):
     reader = Reader(codes)
     parts = reader.read_parts(0)
     stand_where_first_told(reader)
+    # Asked ahead of place 0 at the end: by what a template is wrong is asked of what its bytes tell.
+    refuse_wrong(reader)
     if 0 not in reader.fills:
         reader.fills[0] = []
         parts.append(named(PLACE, 0))
-    refuse_wrong(reader)
     return Template(parts, reader.fills, reader.choices)
 
 

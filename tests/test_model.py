@@ -114,9 +114,10 @@ def check(tokens):
     filled = [token[1] for token in opened if token[2] == 0]
     if len(filled) != len(set(filled)):
         refuse(-901)
-    told = {token[1] for token in opened if token[2] in (0, 1)} | {0}
+    told = {token[1] for token in opened if token[2] in (0, 1)}
     if any(token[1] not in told for token in opened):
         refuse(-902)
+    told.add(0)
     within = {number: set() for number in told}
     stack = []
     for token in tokens:

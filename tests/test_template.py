@@ -111,9 +111,14 @@ class TemplateTest(unittest.TestCase):
             ("${1:$1}${2/u}", -902), ("${1/u}$1", 2), ("${1/u}${1}", 2), ("${1/u}${1:}", 2), ("${1/u}${1|a|}", 2),
         ])
 
-    # The document does not name this one: place 0 stands at the end if it is told nowhere, so it is a place.
+    # That place 0 stands at the end if it isn't there makes it no place that the bytes tell.
     def test_place_0_changed_and_told_nowhere_else(self):
-        self.check_all([("${0/u}", 1)])
+        self.check_all([
+            ("${0/u}", -902), ("$1${0/l}", -902), ("${0/c}$2", -902), ("${1:A${0/u}}", -902), ("${0/u}${0/l}", -902),
+            ("${1:$1}${0/u}", -902), ("${1:a}${1:b}${0/u}", -901), ("${0/u}$", -1007),
+            ("$0${0/u}", 1), ("${0/u}$0", 1), ("${0}${0/l}", 1), ("${0:a}${0/c}", 1), ("${0/u}${0|a,b|}", 1),
+            ("${1:${0/u}}$0", 2), ("${1:${0/u}$0}", 2),
+        ])
 
     def test_wrong_by_three(self):
         self.check_all([
