@@ -1,8 +1,8 @@
 """The object that the calls are about: its templates, its text, what is filled in."""
 
 from snippets.reading import Fault
-from snippets.standing import WHOLE, all_values, bare_text, ended, exchanged, moved_to, range_at, text_length
-from snippets.standing import with_snippet
+from snippets.standing import WHOLE, all_values, bare_text, ended, exchanged, find_spans, moved_to, range_at
+from snippets.standing import text_length, with_snippet
 from snippets.templates import LINE_END, NAMES_EACH, Wrong, make_snippet, read_template
 
 MOST_BYTES = 300
@@ -18,6 +18,7 @@ NOT_FILLING_IN = -3
 SIX_PUT_IN = -4
 TOO_LONG = -5
 NOT_TO_BE_HAD = -6
+NOTHING_TO_UNDO = -7
 WRONG = -900
 FAULTY = -1000
 
@@ -88,6 +89,48 @@ class Desk:
         if now == 0:
             return [NOT_TO_BE_HAD]
         return self.step_to(moved_to(self.standing, order[now - 1]))
+
+    def leave(self):
+        if self.standing.at == WHOLE:
+            return [NOT_FILLING_IN]
+        return self.step_to(ended(self.standing))
+
+    def choose(self, number):
+        place = self.standing.at
+        if place == WHOLE:
+            return [NOT_FILLING_IN]
+        if place not in self.standing.choices:
+            return [NOT_TO_BE_HAD]
+        choices = self.standing.choices[place]
+        if number >= len(choices):
+            return [NO_SUCH]
+        return self.exchange(0, len(all_values(self.standing)[place]), choices[number])
+
+    def tell_text(self):
+        codes = all_values(self.standing)[WHOLE]
+        return [len(codes)] + codes
+
+    def tell_spans(self):
+        if self.standing.at == WHOLE:
+            return [NOT_FILLING_IN]
+        spans = find_spans(self.standing)
+        told = [len(spans)]
+        for span in spans:
+            told.extend(span)
+        return told
+
+    def tell_order(self):
+        if self.standing.at == WHOLE:
+            return [NOT_FILLING_IN]
+        order = self.standing.order
+        return [len(order), order.index(self.standing.at)] + order
+
+    # Templates and how many were put in stay as they are: names are not given again.
+    def undo(self):
+        if self.earlier == []:
+            return [NOTHING_TO_UNDO]
+        self.standing = self.earlier.pop()
+        return self.how_it_stands()
 
     # A range of the value of the place where one is, or of the text.
     def is_range(self, start, end):

@@ -3,12 +3,10 @@
 from snippets.desk import Desk
 
 # Of each call, by its number: how many whole numbers it has, and whether a row comes behind them.
-FORMS = {0: (0, True), 1: (1, True), 2: (3, False), 3: (2, True), 4: (0, False), 5: (0, False)}
-
-
-class UnknownCall(Exception):
-    def __init__(self, call):
-        self.call = call
+FORMS = {
+    0: (0, True), 1: (1, True), 2: (3, False), 3: (2, True), 4: (0, False), 5: (0, False),
+    6: (1, False), 7: (0, False), 8: (0, False), 9: (0, False), 10: (0, False), 11: (0, False),
+}
 
 
 def answers(calls):
@@ -20,8 +18,6 @@ def answers_on(desk, calls):
     here = 0
     while here < len(calls):
         call = calls[here]
-        if call not in FORMS:
-            raise UnknownCall(call)
         row_at = here + 1 + FORMS[call][0]
         numbers = calls[here + 1:row_at]
         row = []
@@ -46,4 +42,16 @@ def answer_call(desk, call, numbers, row):
         return desk.exchange(numbers[0], numbers[1], row)
     if call == 4:
         return desk.go_on()
-    return desk.go_back()
+    if call == 5:
+        return desk.go_back()
+    if call == 6:
+        return desk.choose(numbers[0])
+    if call == 7:
+        return desk.leave()
+    if call == 8:
+        return desk.tell_text()
+    if call == 9:
+        return desk.tell_spans()
+    if call == 10:
+        return desk.tell_order()
+    return desk.undo()

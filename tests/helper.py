@@ -1,11 +1,14 @@
 """Writes calls as the lists of numbers that are handed in, and reads what is answered."""
 
-from snippets.desk import Desk
-from snippets.filling import answers, answers_on
-from snippets.standing import WHOLE, all_values, find_spans
+from snippets.filling import answers
 
 NEXT = [4]
 PREV = [5]
+LEAVE = [7]
+SHOWS = [8]
+SPANS = [9]
+ORDER = [10]
+UNDO = [11]
 
 
 def codes(row):
@@ -32,6 +35,10 @@ def typing(start, end, row):
     return [3, start, end] + row_of(row)
 
 
+def choose(number):
+    return [6, number]
+
+
 def joined(calls):
     return [number for call in calls for number in call]
 
@@ -55,29 +62,34 @@ def last(*calls):
     return ask(*calls)[-1]
 
 
-def desk_after(*calls):
-    desk = Desk()
-    answers_on(desk, joined(calls))
-    return desk
-
-
-def shown(desk):
-    return "".join(chr(code) for code in all_values(desk.standing)[WHOLE])
+# What is told behind a count, which must be right.
+def counted(answer, size, ahead):
+    if len(answer) != ahead + size * answer[0]:
+        raise AssertionError(answer)
+    return answer[ahead:]
 
 
 # The text as it stands behind these calls.
 def text_after(*calls):
-    return shown(desk_after(*calls))
+    return "".join(chr(code) for code in counted(last(*calls, SHOWS), 1, 1))
 
 
+# Of each place and mirror: name, kind, from, to.
 def spans_after(*calls):
-    return find_spans(desk_after(*calls).standing)
+    told = counted(last(*calls, SPANS), 4, 1)
+    return [tuple(told[spot:spot + 4]) for spot in range(0, len(told), 4)]
 
 
+# The names alone.
 def order_after(*calls):
-    return desk_after(*calls).standing.order
+    return counted(last(*calls, ORDER), 1, 2)
 
 
-# The text and how it stands, with the template put into a text without bytes.
+# All that can be told of how it stands; what is refused is told as that.
+def all_after(*calls):
+    return [last(*calls, call) for call in (SHOWS, SPANS, ORDER)]
+
+
+# The text with the template put into one without bytes, behind these calls.
 def put(row, *calls):
     return text_after(template(0, row), expand(0, 0, 0), *calls)

@@ -2,7 +2,7 @@
 
 import unittest
 
-from tests.helper import NEXT, PREV, ask, desk_after, expand, last, order_after, put, shown, spans_after
+from tests.helper import NEXT, PREV, all_after, ask, expand, last, order_after, put, spans_after
 from tests.helper import template, text, text_after, typing
 
 BIG = 4294967295
@@ -117,9 +117,9 @@ class ValueTest(unittest.TestCase):
 
     def test_refused_by_length_leaves_all(self):
         start = [text([120] * 290), template(0, "${1:a${2:b}}$2"), expand(0, 0, 0)]
-        desk = desk_after(*start, typing(0, 0, [97] * 8))
-        self.assertEqual(desk.standing.order, [1, 2, 0])
-        self.assertEqual(shown(desk), "abb" + "x" * 290)
+        self.assertEqual(order_after(*start, typing(0, 0, [97] * 8)), [1, 2, 0])
+        self.assertEqual(text_after(*start, typing(0, 0, [97] * 8)), "abb" + "x" * 290)
+        self.assertEqual(all_after(*start, typing(0, 0, [97] * 8)), all_after(*start))
         self.assertEqual(last(*start, typing(0, 0, [97] * 8)), [-5])
         self.assertEqual(last(*start, typing(0, 0, [97] * 7)), [1, 300, 1, 0, 9])
 

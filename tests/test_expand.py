@@ -2,7 +2,7 @@
 
 import unittest
 
-from tests.helper import NEXT, PREV, ask, desk_after, expand, last, order_after, shown, spans_after
+from tests.helper import NEXT, PREV, all_after, ask, choose, expand, last, order_after, spans_after
 from tests.helper import template, text, text_after, typing
 
 BIG = 4294967295
@@ -199,17 +199,16 @@ class WithinTest(unittest.TestCase):
 
     def test_choices_are_kept(self):
         calls = [template(0, "${1|a,b|}${2:${3|c|}}"), expand(0, 0, 0), typing(0, 1, "x"), expand(0, 0, 0)]
-        desk = desk_after(*calls)
-        self.assertEqual(sorted(desk.standing.choices), [1, 3, 11, 13])
-        self.assertEqual(desk.standing.choices[11], [[97], [98]])
+        self.assertEqual(order_after(*calls), [1, 11, 12, 13, 10, 2, 3, 0])
+        taken = [last(*calls, *[NEXT] * moves, choose(0))[0] for moves in range(7)]
+        self.assertEqual(taken, [1, -6, 1, -6, -6, 1, -6])
+        self.assertEqual(last(*calls, PREV, choose(1)), [1, 2, 1, 0, 1])
+        self.assertEqual(text_after(*calls, choose(1)), "bcxc")
 
     def test_refused_leaves_all(self):
         start = [text("  q"), template(0, "${1:a${2:b}}$2"), expand(0, 2, 2)]
-        before = desk_after(*start)
         for refused in (expand(1, 0, 0), expand(0, 0, 9), expand(0, 1, 0)):
-            desk = desk_after(*start, refused)
-            self.assertEqual(shown(desk), shown(before))
-            self.assertEqual(desk.standing.order, before.standing.order)
+            self.assertEqual(all_after(*start, refused), all_after(*start))
             self.assertEqual(last(*start, refused, expand(0, 0, 0)), [1, 9, 11, 2, 4])
 
     def test_refused_by_length_leaves_all(self):

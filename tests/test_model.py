@@ -8,8 +8,8 @@ import random
 import unittest
 
 from snippets.desk import Desk
-from snippets.filling import answers_on
-from snippets.standing import WHOLE, all_values, find_spans
+from snippets.filling import answers, answers_on
+from tests.helper import split
 
 KINDS = {"u": 2, "l": 3, "c": 4}
 
@@ -25,7 +25,7 @@ def refuse(number):
 # A flat row of: a sign; ("lit", sign) for one that gets no blanks; "S"-marks; brackets of what is told.
 def read(row):
     out, stack, state, number, choices = [], [], "plain", None, None
-    dollar = 0
+    dollar, offers = 0, {}
     for place, sign in enumerate(row):
         if state == "plain":
             if sign == "$":
@@ -99,10 +99,11 @@ def read(row):
             if sign != "}":
                 refuse(-1000 - place)
             out += [("open", number, 0)] + [("lit", sign) for sign in choices[0]] + [("close", number, 0)]
+            offers[number] = choices
             state = "plain"
     if state != "plain" or stack:
         refuse(-1000 - len(row))
-    return out
+    return out, offers
 
 
 def is_bracket(token, way):
@@ -160,6 +161,8 @@ def change(row, kind):
 class Model:
     def __init__(self):
         self.templates, self.count, self.tokens, self.order, self.at = {}, 0, [], [], None
+        # Of each place by its name, those that are gone too: names are not given again.
+        self.offers, self.history = {}, []
 
     def signs(self, tokens=None):
         return [t for t in (self.tokens if tokens is None else tokens) if len(t) == 1]
@@ -212,7 +215,8 @@ class Model:
         ahead = "".join(self.signs())[:self.begin(self.at) + start].split("\n")[-1]
         blanks = ahead[:len(ahead) - len(ahead.lstrip(" \t"))]
         new = []
-        for token in self.templates[number]:
+        tokens, offers = self.templates[number]
+        for token in tokens:
             if token == ("selected",):
                 new += value[start:end]
             elif token[0] == "lit":
@@ -226,6 +230,7 @@ class Model:
         spot = self.order.index(self.at) + 1 if self.order else 0
         self.order[spot:spot] = names
         self.at = names[0]
+        self.offers.update({10 * self.count + place: choices for place, choices in offers.items()})
         self.count += 1
         self.settle()
         return self.stands()
@@ -238,16 +243,44 @@ class Model:
         self.settle()
         return self.stands()
 
-    def move(self, step):
+    def choose(self, number):
+        self.need_filling_in()
+        if self.at not in self.offers:
+            refuse(-6)
+        if number not in range(len(self.offers[self.at])):
+            refuse(-2)
+        return self.exchange(0, len(self.value(self.at)), self.offers[self.at][number])
+
+    def need_filling_in(self):
         if self.at is None:
             refuse(-3)
+
+    def leave(self):
+        self.need_filling_in()
+        self.tokens, self.order, self.at = self.signs(), [], None
+        return self.stands()
+
+    def undo(self):
+        if not self.history:
+            refuse(-7)
+        self.tokens, self.order, self.at = self.history.pop()
+        return self.stands()
+
+    def shows(self):
+        return [len(self.signs())] + [ord(sign) for sign in self.signs()]
+
+    def tell_order(self):
+        self.need_filling_in()
+        return [len(self.order), self.order.index(self.at)] + self.order
+
+    def move(self, step):
+        self.need_filling_in()
         spot = self.order.index(self.at) + step
         if spot < 0:
             refuse(-6)
         if spot == len(self.order):
-            self.tokens, self.order, self.at = self.signs(), [], None
-        else:
-            self.at = self.order[spot]
+            return self.leave()
+        self.at = self.order[spot]
         return self.stands()
 
     def stands(self):
@@ -257,18 +290,19 @@ class Model:
         return [1, size, self.at, self.begin(self.at), self.begin(self.at) + len(self.value(self.at))]
 
     def set_text(self, row):
-        self.tokens, self.order, self.at = list(row), [], None
+        self.tokens, self.order, self.at, self.history = list(row), [], None, []
         return [len(row)]
 
     def set_template(self, number, row):
         if len(row) > 60:
             refuse(-1)
-        tokens = read(row)
+        tokens, offers = read(row)
         told = check(tokens)
-        self.templates[number] = stand(tokens)
+        self.templates[number] = stand(tokens), offers
         return [len(told)]
 
     def spans(self):
+        self.need_filling_in()
         found, size, open_places = [], 0, {}
         for token in self.tokens:
             if len(token) == 1:
@@ -279,24 +313,30 @@ class Model:
             else:
                 spot = open_places[token[1:]]
                 found[spot] = found[spot] + (size,)
-        return found
+        return [len(found)] + [number for span in found for number in span]
 
     def answer(self, call):
-        kept = dict(self.templates), self.count, list(self.tokens), list(self.order), self.at
+        kept = dict(self.templates), self.count, dict(self.offers), list(self.history)
+        ahead = list(self.tokens), list(self.order), self.at
         try:
-            return self.take(call)
+            answer = self.take(call)
         except Refused as refused:
-            self.templates, self.count, self.tokens, self.order, self.at = kept
+            self.templates, self.count, self.offers, self.history = kept
+            self.tokens, self.order, self.at = ahead
             return [refused.args[0]]
+        if call[0] in (2, 3, 4, 5, 6, 7):
+            self.history.append(ahead)
+        return answer
 
     def take(self, call):
         if call[0] in (4, 5):
             return self.move(1 if call[0] == 4 else -1)
-        return (self.set_text, self.set_template, self.expand, self.exchange)[call[0]](*call[1:])
+        return (self.set_text, self.set_template, self.expand, self.exchange, None, None, self.choose, self.leave,
+                self.shows, self.spans, self.tell_order, self.undo)[call[0]](*call[1:])
 
 
 PIECES = ["a", "B", "\n", " ", "\t", "\\$", "\\}", "$S", "zQ", "$%", "${%}", "${%/u}", "${%/l}", "${%/c}",
-          "${%|a,b|}", "${%|x\ny,|}", "${%|\\,\\|\\\\|}"]
+          "${%|a,b,cdEfgh|}", "${%|x\ny,|}", "${%|\\,\\|\\\\|}"]
 
 
 def make_row(chance, deep, most):
@@ -319,24 +359,48 @@ def make_template(chance):
     return row
 
 
+# Most are right ones with two places or more; what would be refused is handed in only now and then.
+def make_row_to_set(chance):
+    row = make_template(chance)
+    while chance.random() < 0.9 and Model().answer((1, 0, row))[0] < 2:
+        row = make_template(chance)
+    return row
+
+
 def make_range(chance, model):
     size = len(model.value(model.at))
     start = chance.randint(0, size)
     return start, chance.randint(start, size) + (chance.random() < 0.03) - (chance.random() < 0.03)
 
 
+ANY = (0, 1, 1, 2, 3, 4, 5, 6, 7, 8, 9, 10, 11)
+
+
+# What is likely to be taken as it stands, most of the time.
+def make_way(chance, model):
+    if chance.random() < 0.25:
+        return chance.choice(ANY)
+    if model.at is None:
+        return chance.choice((0, 2, 2, 2, 3, 11))
+    if model.at in model.offers:
+        return chance.choice((2, 3, 4, 5, 6, 6, 6, 11))
+    return chance.choice((2, 3, 3, 4, 4, 4, 5, 5, 11))
+
+
 def make_call(chance, model):
-    way = chance.choice((1, 1, 2, 2, 3, 3, 3, 4, 4, 5, 0) if chance.random() < 0.3 else (2, 3, 4, 4, 5))
+    way = make_way(chance, model)
     if way == 0:
-        return (0, "".join(chance.choice("ab \t\n") for _ in range(chance.choice((0, 5, 20)))))
+        return (0, "".join(chance.choice("ab \t\n") for _ in range(chance.choice((0, 5, 20, 294)))))
     if way == 1:
-        return (1, chance.randint(0, 3), make_template(chance))
+        return (1, chance.randint(0, 3), make_row_to_set(chance))
     if way in (2, 3):
         start, end = make_range(chance, model)
         end = max(end, 0)
-        row = "".join(chance.choice("xyZ \n") for _ in range(chance.choice((0, 1, 2, 5, 40))))
+        # Now and then so many that the text is nearly or just full.
+        room = max(0, 300 - len(model.signs()) + end - start - chance.choice((0, 1, 2, 5)))
+        row = "".join(chance.choice("xyZ \n") for _ in range(chance.choice((0, 1, 2, 5, 40, room))))
         return (2, chance.randint(0, 3), start, end) if way == 2 else (3, start, end, row)
-    return (way,)
+    return (6, chance.choice((0, 1, 1, 2))) if way == 6 else (way,)
 
 
 def as_numbers(call):
@@ -346,23 +410,43 @@ def as_numbers(call):
     return numbers
 
 
+TELLING = ((8,), (9,), (10,))
+
+
 class ModelTest(unittest.TestCase):
+    def check_call(self, model, desk, call, told):
+        answer = model.answer(call)
+        self.assertEqual(answers_on(desk, as_numbers(call)), [len(answer)] + answer, told)
+        return [len(answer)] + answer
+
+    # Each call's answer, and behind each call all that can be told; then the same calls in one list.
     def check_walk(self, seed):
         chance = random.Random(seed)
-        model, desk, calls = Model(), Desk(), []
+        model, desk, calls, given = Model(), Desk(), [], []
         for spot in range(40):
-            call = (1, spot, make_template(chance)) if spot < 4 else make_call(chance, model)
+            call = (1, spot, make_row_to_set(chance)) if spot < 4 else make_call(chance, model)
             calls.append(call)
-            answer = model.answer(call)
-            self.assertEqual(answers_on(desk, as_numbers(call)), [len(answer)] + answer, (seed, calls))
-            shown = "".join(chr(code) for code in all_values(desk.standing)[WHOLE])
-            self.assertEqual(shown, "".join(model.signs()), (seed, calls))
-            self.assertEqual(find_spans(desk.standing), model.spans(), (seed, calls))
-            self.assertEqual(desk.standing.order, model.order, (seed, calls))
+            given += self.check_call(model, desk, call, (seed, calls))
+            for asked in TELLING:
+                self.check_call(model, desk, asked, (seed, calls, asked))
+        numbers = [number for call in calls for number in as_numbers(call)]
+        handed = list(numbers)
+        self.assertEqual(answers(handed), given, (seed, calls))
+        self.assertEqual(handed, numbers)
+        return [(call[0], answer) for call, answer in zip(calls, split(given))]
 
     def test_walks(self):
-        for seed in range(300):
-            self.check_walk(seed)
+        seen = {}
+        for seed in range(400):
+            for number, answer in self.check_walk(seed):
+                told = "refused", answer[0] if answer[0] > -900 else answer[0] // 100
+                seen.setdefault((number,) + (told if answer[0] < 0 else ("taken",)), seed)
+        # The walks are worth little if a call is never taken or one of its refusals never met.
+        for number in range(12):
+            self.assertIn((number, "taken"), seen)
+        for number, refusal in ((2, -2), (2, -1), (2, -4), (2, -5), (3, -1), (3, -5), (4, -3), (5, -3), (5, -6),
+                                (6, -3), (6, -6), (6, -2), (6, -5), (7, -3), (9, -3), (10, -3), (11, -7)):
+            self.assertIn((number, "refused", refusal), seen)
 
 
 if __name__ == "__main__":

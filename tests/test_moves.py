@@ -1,8 +1,9 @@
-"""The calls next and prev."""
+"""The calls next, prev and leave."""
 
 import unittest
 
-from tests.helper import NEXT, PREV, ask, desk_after, expand, last, order_after, template, text, text_after, typing
+from tests.helper import LEAVE, NEXT, ORDER, PREV, SPANS, all_after, ask, choose, expand, last, template, text
+from tests.helper import text_after, typing
 
 
 class MovesTest(unittest.TestCase):
@@ -40,8 +41,7 @@ class MovesTest(unittest.TestCase):
         calls = [template(0, "${1:a}$1"), expand(0, 0, 0), NEXT, NEXT, typing(0, 1, "xy")]
         self.assertEqual(last(*calls), [0, 3])
         self.assertEqual(text_after(*calls), "xya")
-        self.assertEqual(order_after(*calls), [])
-        self.assertEqual(desk_after(*calls).standing.choices, {})
+        self.assertEqual(ask(*calls, ORDER, SPANS, choose(0))[-3:], [[-3]] * 3)
 
     def test_next_from_the_last_place_of_a_snippet_within(self):
         calls = [template(0, "<$1>$2"), expand(0, 0, 0), template(1, "ab"), expand(1, 0, 0)]
@@ -52,6 +52,37 @@ class MovesTest(unittest.TestCase):
         calls = [template(0, "ab"), expand(0, 0, 0), expand(0, 0, 0), NEXT]
         self.assertEqual(ask(*calls)[1:], [[1, 2, 0, 2, 2], [1, 4, 10, 4, 4], [0, 4]])
         self.assertEqual(last(*calls[:3], PREV), [1, 4, 0, 2, 4])
+
+    def test_next_keeps_what_stands_of_mirrors(self):
+        calls = [template(0, "${1:ab}-${1/u}-$1"), expand(0, 0, 0), typing(2, 2, "c"), NEXT, NEXT]
+        self.assertEqual(text_after(*calls), "abc-ABC-abc")
+
+
+class LeaveTest(unittest.TestCase):
+    def test_nothing_is_filled_in(self):
+        self.assertEqual(last(LEAVE), [-3])
+        self.assertEqual(ask(text("ab"), LEAVE), [[2], [-3]])
+        self.assertEqual(last(template(0, ""), expand(0, 0, 0), LEAVE, LEAVE), [-3])
+        self.assertEqual(last(template(0, ""), expand(0, 0, 0), NEXT, LEAVE), [-3])
+        self.assertEqual(last(template(0, ""), expand(0, 0, 0), text("a"), LEAVE), [-3])
+
+    def test_at_the_first_place_in_the_middle_and_at_the_last(self):
+        start = [text("<>"), template(0, "${1:a}${2:b$1}${1/u}"), expand(0, 1, 1)]
+        for moves in ([], [NEXT], [NEXT, NEXT], [NEXT, NEXT, PREV]):
+            self.assertEqual(last(*start, *moves, LEAVE), [0, 6])
+            self.assertEqual(all_after(*start, *moves, LEAVE), [[6, 60, 97, 98, 97, 65, 62], [-3], [-3]])
+            self.assertEqual(ask(*start, *moves, LEAVE, NEXT, PREV, choose(0))[-3:], [[-3]] * 3)
+
+    def test_out_of_a_snippet_within_at_once(self):
+        calls = [template(0, "<$1>$1"), expand(0, 0, 0), template(1, "(${1:a})"), expand(1, 0, 0), LEAVE]
+        self.assertEqual(last(*calls), [0, 8])
+        self.assertEqual(text_after(*calls), "<(a)>(a)")
+
+    def test_the_text_is_bytes_then(self):
+        calls = [template(0, "${1:a}$1"), expand(0, 0, 0), LEAVE]
+        self.assertEqual(text_after(*calls, typing(0, 1, "xy")), "xya")
+        self.assertEqual(last(*calls, expand(0, 0, 2)), [1, 2, 11, 0, 1])
+        self.assertEqual(last(*calls, expand(0, 0, 2), ORDER), [2, 0, 11, 10])
 
 
 if __name__ == "__main__":
